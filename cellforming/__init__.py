@@ -1,0 +1,1 @@
+"""Cells formed under a peak: trays on channels, minute by minute."""

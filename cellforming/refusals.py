@@ -1,0 +1,10 @@
+"""The numbers by which calls are refused."""
+
+NO_SUCH = -2
+NOT_BEGUN = -6
+NOT_STARTED = -11
+BEGUN_BEFORE = -16
+IS_BEGUN = -17
+WRONG = -22
+FULL = -28
+NOT_KEPT = -62
