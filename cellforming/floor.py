@@ -3,12 +3,14 @@
 Each call answers a list: the number that is answered, then what is answered beside it.
 """
 
-from cellforming.programmes import minute_by_minute, steps_fit
-from cellforming.refusals import BEGUN_BEFORE, FULL, IS_BEGUN, NO_SUCH, NOT_BEGUN, NOT_KEPT, WRONG
-from cellforming.runs import burnt_in, drawn_in, end_of_all, most_used_from, run_end, top_from, used_in
+from cellforming.delays import plans_for
+from cellforming.outlook import Outlook, burnt_of, drawn_of
+from cellforming.programmes import Programme, steps_fit
+from cellforming.refusals import BEGUN_BEFORE, FULL, IS_BEGUN, NO_DELAY, NO_SUCH, NOT_BEGUN, NOT_KEPT, WRONG
 
 MOST_PROGRAMMES = 6
 MOST_TRAYS = 10
+HIGHEST_PEAK = 10000
 LONGEST_WAIT = 60
 LONGEST_PASS = 300
 LAST_MINUTE = 5000
@@ -20,8 +22,8 @@ class Tray:
         # None as long as it waits.
         self.begun = None
 
-    def run_from(self, minute):
-        return (minute, self.powers)
+    def end(self):
+        return self.begun + len(self.powers)
 
 
 class Floor:
@@ -31,13 +33,17 @@ class Floor:
         self.minute = 0
         self.programmes = []
         self.trays = {}
+        # Over all minutes that went by.
+        self.drawn = 0
+        self.burnt = 0
+        self.gone = 0
 
     def program(self, numbers):
         if not steps_fit(numbers):
             return [WRONG]
         if len(self.programmes) == MOST_PROGRAMMES:
             return [FULL]
-        self.programmes.append(minute_by_minute(numbers))
+        self.programmes.append(Programme(numbers))
         return [len(self.programmes) - 1]
 
     def tray(self, programme):
@@ -48,7 +54,7 @@ class Floor:
         number = 0
         while number in self.trays:
             number += 1
-        self.trays[number] = Tray(self.programmes[programme])
+        self.trays[number] = Tray(self.programmes[programme].powers)
         return [number]
 
     def begin(self, number):
@@ -62,11 +68,10 @@ class Floor:
             return [IS_BEGUN]
         if minutes > LONGEST_WAIT:
             return [WRONG]
-        run = tray.run_from(self.minute + minutes)
-        if not self.keeps(self.begun_runs() + [run]):
+        if not self.keeps(self.outlook().joined_by(tray.powers, minutes)):
             return [NOT_KEPT]
         tray.begun = self.minute + minutes
-        return [run_end(run)]
+        return [tray.end()]
 
     def cancel(self, number):
         tray = self.trays.get(number)
@@ -76,10 +81,8 @@ class Floor:
             return [NOT_BEGUN]
         if tray.begun < self.minute:
             return [BEGUN_BEFORE]
-        others = self.begun_runs()
-        # Another tray's run may be equal, but then it's the same which of both is left out.
-        others.remove(tray.run_from(tray.begun))
-        if not self.keeps(others):
+        others = [other for key, other in self.trays.items() if key != number]
+        if not self.keeps(self.outlook_of(others)):
             return [NOT_KEPT]
         tray.begun = None
         return [0]
@@ -87,37 +90,128 @@ class Floor:
     def pass_by(self, minutes):
         if not 1 <= minutes <= LONGEST_PASS or self.minute + minutes > LAST_MINUTE:
             return [WRONG]
+        for taken in self.outlook().taken[:minutes]:
+            self.drawn += drawn_of(taken)
+            self.burnt += burnt_of(taken)
         self.minute += minutes
         for number in list(self.trays):
             if self.is_through(self.trays[number]):
                 self.trays.pop(number)
+                self.gone += 1
         return [self.minute]
 
     def power(self, minute):
         if not self.is_ahead(minute):
             return [WRONG]
-        runs = self.begun_runs()
-        return [drawn_in(runs, minute), burnt_in(runs, minute)]
+        taken = self.outlook().taken_in(minute - self.minute)
+        return [drawn_of(taken), burnt_of(taken)]
 
     def top(self):
-        runs = self.begun_runs()
-        return [top_from(runs, self.minute), end_of_all(runs, self.minute)]
+        ahead = self.outlook()
+        return [ahead.top(), self.end_of(ahead)]
 
     def used(self, minute):
         if not self.is_ahead(minute):
             return [WRONG]
-        return [used_in(self.begun_runs(), minute)]
+        return [self.outlook().needed_in(minute - self.minute)]
 
-    def begun_runs(self):
-        return [tray.run_from(tray.begun) for tray in self.trays.values() if tray.begun is not None]
+    def soonest(self, number):
+        tray = self.trays.get(number)
+        if tray is None:
+            return [NO_SUCH]
+        if tray.begun is not None:
+            return [IS_BEGUN]
+        ahead = self.outlook()
+        for delay in range(LONGEST_WAIT + 1):
+            if self.keeps(ahead.joined_by(tray.powers, delay)):
+                return [self.minute + delay]
+        return [NO_DELAY]
 
-    def keeps(self, runs):
-        if top_from(runs, self.minute) > self.limit:
-            return False
-        return most_used_from(runs, self.minute) <= self.channels
+    def least(self, longest):
+        if longest > LONGEST_WAIT:
+            return [WRONG]
+        plans = self.plans(longest)
+        if not plans:
+            return [NO_DELAY]
+        best = min(plans, key=lambda plan: plan.ahead.top())
+        return [best.ahead.top()] + best.delays
+
+    def through(self, longest):
+        if longest > LONGEST_WAIT:
+            return [WRONG]
+        plans = [plan for plan in self.plans(longest) if self.keeps(plan.ahead)]
+        if not plans:
+            return [NO_DELAY]
+        best = min(plans, key=lambda plan: plan.ahead.how_long())
+        return [self.end_of(best.ahead)] + best.delays
+
+    def follow(self, longest):
+        answered = self.through(longest)
+        if answered[0] < 0:
+            return answered
+        for number, delay in zip(self.waiting_numbers(), answered[1:], strict=True):
+            tray = self.trays[number]
+            tray.begun = self.minute + delay
+        return [answered[0]]
+
+    def peak(self, limit):
+        if limit > HIGHEST_PEAK:
+            return [WRONG]
+        if not self.outlook().keeps(limit, self.channels):
+            return [NOT_KEPT]
+        before = self.limit
+        self.limit = limit
+        return [before]
+
+    def left(self, number):
+        tray = self.trays.get(number)
+        if tray is None:
+            return [NO_SUCH]
+        if tray.begun is None:
+            return [NOT_BEGUN]
+        return [tray.end() - max(self.minute, tray.begun), tray.begun]
+
+    def waiting(self):
+        numbers = self.waiting_numbers()
+        return [len(numbers)] + numbers
+
+    def energy(self):
+        return [self.drawn, self.burnt, self.gone]
+
+    def long(self, number):
+        if number >= len(self.programmes):
+            return [NO_SUCH]
+        programme = self.programmes[number]
+        return [len(programme.powers), programme.steps]
+
+    def state(self):
+        return [self.minute, len(self.trays), len(self.programmes), self.channels, self.limit]
+
+    def waiting_numbers(self):
+        return sorted([number for number, tray in self.trays.items() if tray.begun is None])
+
+    def plans(self, longest):
+        waiting = [self.trays[number].powers for number in self.waiting_numbers()]
+        return plans_for(waiting, self.outlook(), longest, self.channels)
+
+    def outlook(self):
+        return self.outlook_of(list(self.trays.values()))
+
+    def outlook_of(self, trays):
+        ahead = Outlook([], [])
+        for tray in trays:
+            if tray.begun is not None:
+                ahead = ahead.joined_by(tray.powers, tray.begun - self.minute)
+        return ahead
+
+    def end_of(self, ahead):
+        return self.minute + ahead.how_long()
+
+    def keeps(self, ahead):
+        return ahead.keeps(self.limit, self.channels)
 
     def is_through(self, tray):
-        return tray.begun is not None and run_end(tray.run_from(tray.begun)) <= self.minute
+        return tray.begun is not None and tray.end() <= self.minute
 
     def is_ahead(self, minute):
         return self.minute <= minute <= LAST_MINUTE

@@ -18,3 +18,9 @@ def minute_by_minute(numbers):
     for at in range(0, len(numbers), 2):
         powers.extend([numbers[at]] * numbers[at + 1])
     return powers
+
+
+class Programme:
+    def __init__(self, numbers):
+        self.powers = minute_by_minute(numbers)
+        self.steps = len(numbers) // 2

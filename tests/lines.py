@@ -43,6 +43,46 @@ def used(m):
     return [9, m]
 
 
+def soonest(t):
+    return [10, t]
+
+
+def least(d):
+    return [11, d]
+
+
+def through(d):
+    return [12, d]
+
+
+def follow(d):
+    return [13, d]
+
+
+def peak(n):
+    return [14, n]
+
+
+def left(t):
+    return [15, t]
+
+
+def waiting():
+    return [16]
+
+
+def energy():
+    return [17]
+
+
+def long(p):
+    return [18, p]
+
+
+def state():
+    return [19]
+
+
 def split(numbers):
     """What each call answered, as a list of its own."""
     parts = []

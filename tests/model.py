@@ -1,6 +1,10 @@
 """The promises told a second time, in another way: a timetable of sums, gone through minute by minute."""
 
+from tests.trial import least_by_trial, through_by_trial
+
 FAR = 5400
+# No tray is begun for later than in 60 minutes, and none takes longer than 100.
+SEEN = 200
 
 
 class Model:
@@ -16,17 +20,19 @@ class Model:
         if number == 1:
             return self.program(rest[1:])
         return [None, None, self.tray, self.begin, self.wait, self.cancel,
-                self.pass_by, self.power, self.top, self.used][number](*rest)
+                self.pass_by, self.power, self.top, self.used, self.soonest, self.least, self.through, self.follow,
+                self.set_peak, self.left, self.waiting, self.energy, self.long, self.state][number](*rest)
 
     def start(self, channels, peak):
         if channels not in range(1, 9) or peak not in range(10001):
             return [-22]
         self.started = True
         self.channels, self.peak, self.now = channels, peak, 0
-        self.programs = []
+        self.programs, self.steps = [], []
         self.slots = [None] * 10
         self.net = [0] * FAR
         self.busy = [0] * FAR
+        self.over = 0
         return [0]
 
     def program(self, row):
@@ -39,6 +45,7 @@ class Model:
         if len(self.programs) == 6:
             return [-28]
         self.programs.append([level for level, minutes in pairs for _ in range(minutes)])
+        self.steps.append(len(pairs))
         return [len(self.programs) - 1]
 
     def tray(self, p):
@@ -60,7 +67,8 @@ class Model:
             self.busy[first + offset] += sign
 
     def keeps(self):
-        return max(self.net[self.now:]) <= self.peak and max(self.busy[self.now:]) <= self.channels
+        seen = slice(self.now, self.now + SEEN)
+        return max(self.net[seen]) <= self.peak and max(self.busy[seen]) <= self.channels
 
     def begin(self, t):
         return self.wait(t, 0)
@@ -101,6 +109,7 @@ class Model:
             for t, slot in enumerate(self.slots):
                 if slot and slot[1] is not None and slot[1] + len(self.programs[slot[0]]) - 1 == self.now:
                     self.slots[t] = None
+                    self.over += 1
             self.now += 1
         return [self.now]
 
@@ -111,7 +120,7 @@ class Model:
 
     def top(self):
         most, behind = 0, self.now
-        for m in range(self.now, FAR):
+        for m in range(self.now, self.now + SEEN):
             most = max(most, self.net[m])
             if self.busy[m]:
                 behind = m + 1
@@ -121,3 +130,67 @@ class Model:
         if m not in range(self.now, 5001):
             return [-22]
         return [self.busy[m]]
+
+    def soonest(self, t):
+        for m in range(61):
+            answer = self.wait(t, m)[0]
+            if answer in (-2, -17):
+                return [answer]
+            if answer >= 0:
+                self.lay(t, -1)
+                self.slots[t][1] = None
+                return [self.now + m]
+        return [-33]
+
+    def idle(self):
+        return [t for t, slot in enumerate(self.slots) if slot and slot[1] is None]
+
+    def ahead(self):
+        seen = slice(self.now, self.now + SEEN)
+        return self.net[seen], self.busy[seen], [self.programs[self.slots[t][0]] for t in self.idle()]
+
+    def least(self, d):
+        return [-22] if d > 60 else least_by_trial(*self.ahead(), d, self.channels)
+
+    def through(self, d):
+        return [-22] if d > 60 else through_by_trial(*self.ahead(), d, self.channels, self.peak, self.now)
+
+    def follow(self, d):
+        end, *delays = self.through(d)
+        if end >= 0:
+            for t, delay in zip(self.idle(), delays, strict=True):
+                self.slots[t][1] = self.now + delay
+                self.lay(t, 1)
+        return [end]
+
+    def set_peak(self, n):
+        if n not in range(10001):
+            return [-22]
+        before, self.peak = self.peak, n
+        if not self.keeps():
+            self.peak = before
+            return [-62]
+        return [before]
+
+    def left(self, t):
+        if not self.there(t):
+            return [-2]
+        p, first = self.slots[t]
+        if first is None:
+            return [-6]
+        return [len([m for m in range(first, first + len(self.programs[p])) if m >= self.now]), first]
+
+    def waiting(self):
+        return [len(self.idle()), *self.idle()]
+
+    def energy(self):
+        gone_by = self.net[:self.now]
+        return [sum(level for level in gone_by if level > 0), -sum(level for level in gone_by if level < 0), self.over]
+
+    def long(self, p):
+        if p not in range(len(self.programs)):
+            return [-2]
+        return [len(self.programs[p]), self.steps[p]]
+
+    def state(self):
+        return [self.now, len([slot for slot in self.slots if slot]), len(self.programs), self.channels, self.peak]

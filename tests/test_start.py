@@ -2,23 +2,28 @@
 
 import unittest
 
-from tests.lines import ask, begin, cancel, last, pass_by, power, program, start, top, tray, used, wait
+from tests.lines import (ask, begin, cancel, energy, follow, last, least, left, long, pass_by, peak, power, program,
+                         soonest, start, state, through, top, tray, used, wait, waiting)
+
+HUGE = 4294967295
 
 OTHER_CALLS = (
     program(100, 1), program(), program(1, 2, 3), program(*range(60)),
     tray(0), begin(0), wait(0, 0), wait(0, 61), cancel(0), pass_by(1), pass_by(0), power(0), power(5001),
     top(), used(0), used(5001),
-    [10, 0], [11, 0], [11, 4294967295], [12, 6], [13, 7], [14, 0], [15, 0], [16], [17], [18, 0], [19],
+    soonest(0), soonest(HUGE), peak(0), peak(10001), peak(HUGE), left(0), left(HUGE), waiting(), energy(), long(0),
+    long(HUGE), state(),
+    *[call(d) for call in (least, through, follow) for d in (0, 6, 7, 60, 61, HUGE)],
 )
 
 
 class Start(unittest.TestCase):
     def test_edges_of_channels(self):
-        for channels, answer in ((0, -22), (1, 0), (8, 0), (9, -22), (4294967295, -22)):
+        for channels, answer in ((0, -22), (1, 0), (8, 0), (9, -22), (HUGE, -22)):
             self.assertEqual(ask(start(channels, 100)), [[answer]], channels)
 
     def test_edges_of_peak(self):
-        for peak, answer in ((0, 0), (10000, 0), (10001, -22), (4294967295, -22)):
+        for peak, answer in ((0, 0), (10000, 0), (10001, -22), (HUGE, -22)):
             self.assertEqual(ask(start(1, peak)), [[answer]], peak)
 
     def test_both_wrong(self):
